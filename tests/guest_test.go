@@ -741,10 +741,11 @@ func TestSayEachText(t *testing.T) {
 	}
 }
 
-// TestOfAGuestThatIsNotRight: whatever is wrong with it, nothing is answered of it.
-func TestOfAGuestThatIsNotRight(t *testing.T) {
+// wrongGuests are made of each base, with and without what it said, by one thing that makes it wrong.
+func wrongGuests(t *testing.T) []impl.Guest {
+	t.Helper()
 	k := mustToken(t, 1, 5, 70, 100, 20)
-	wrong := 0
+	var wrong []impl.Guest
 	for _, b := range guestBases(t) {
 		for _, lists := range [][2][]string{{nil, nil}, {numbered(3), nil}, {numbered(3), numbered(2)}} {
 			for _, change := range []func(g *impl.Guest){
@@ -773,25 +774,31 @@ func TestOfAGuestThatIsNotRight(t *testing.T) {
 				func(g *impl.Guest) { g.Row = impl.Row{Key: impl.TokenKey(5)} },
 				func(g *impl.Guest) { g.Row = impl.Row{No: 9} },
 			} {
-				g := changedGuest(b.guest, func(g *impl.Guest) {
-					g.Early, g.Words, g.Ahead, g.Sent = lists[0], lists[1], 0, 0
+				wrong = append(wrong, changedGuest(b.guest, func(g *impl.Guest) {
+					g.Early, g.Words, g.Ahead, g.Sent = slices.Clone(lists[0]), slices.Clone(lists[1]), 0, 0
 					*g = withItsRow(*g)
 					change(g)
-				})
-				early, is := impl.SayEarly(g, "x")
-				others, also := impl.Say(g, "x")
-				if is || also || !sameGuest(early, impl.Guest{}) || !sameGuest(others, impl.Guest{}) || len(impl.AllOf(g)) != 0 {
-					t.Fatalf("of %v: %v, %v; %v, %v; %q", g, early, is, others, also, impl.AllOf(g))
-				}
-				if checkAll(t, "wrong", g) {
-					t.Fatalf("%v is right", g)
-				}
-				wrong++
+				}))
 			}
 		}
 	}
-	if wrong != 16*3*24 {
-		t.Fatalf("%d are wrong", wrong)
+	if len(wrong) != 16*3*24 {
+		t.Fatalf("%d are wrong", len(wrong))
+	}
+	return wrong
+}
+
+// TestOfAGuestThatIsNotRight: whatever is wrong with it, nothing is answered of it.
+func TestOfAGuestThatIsNotRight(t *testing.T) {
+	for _, g := range wrongGuests(t) {
+		early, is := impl.SayEarly(g, "x")
+		others, also := impl.Say(g, "x")
+		if is || also || !sameGuest(early, impl.Guest{}) || !sameGuest(others, impl.Guest{}) || len(impl.AllOf(g)) != 0 {
+			t.Fatalf("of %v: %v, %v; %v, %v; %q", g, early, is, others, also, impl.AllOf(g))
+		}
+		if checkAll(t, "wrong", g) {
+			t.Fatalf("%v is right", g)
+		}
 	}
 }
 
@@ -1004,35 +1011,42 @@ func TestGuestsOfOneGuest(t *testing.T) {
 	}
 }
 
+// guestNumbers are the numbers that each number of a Guest is once.
+var guestNumbers = append(slices.Clone(guestStates), 2, 9, 20, 21, 41, 42, 1000, 1001, 100000, 100001)
+
+// changesTo makes each number of a Guest n, one at a time, and last all of them.
+func changesTo(n int64) []func(g *impl.Guest) {
+	return []func(g *impl.Guest){
+		func(g *impl.Guest) { g.State = n },
+		func(g *impl.Guest) { g.Draw = n },
+		func(g *impl.Guest) { g.Pick = n },
+		func(g *impl.Guest) { g.Ahead = n },
+		func(g *impl.Guest) { g.Sent = n },
+		func(g *impl.Guest) { g.Ahead, g.Sent = n, n },
+		func(g *impl.Guest) { g.Token.Secret = n },
+		func(g *impl.Guest) { g.Token.Born = n },
+		func(g *impl.Guest) { g.Token.Life = n },
+		func(g *impl.Guest) { g.Token.Most = n },
+		func(g *impl.Guest) { g.Token.Seal.No = n },
+		func(g *impl.Guest) { g.Token.Seal.Key.Secret = n },
+		func(g *impl.Guest) { g.Row.No = n },
+		func(g *impl.Guest) { g.Row.Key.Use = n },
+		func(g *impl.Guest) { g.Row.Key.Secret = n },
+		func(g *impl.Guest) { g.Row.Key.Hello = n },
+		func(g *impl.Guest) { g.Row.Key.Answer = n },
+		func(g *impl.Guest) {
+			g.State, g.Draw, g.Pick, g.Ahead, g.Sent = n, n, n, n, n
+			g.Token = impl.Token{Secret: n, Born: n, Life: n, Most: n}
+			g.Row = impl.Row{Key: impl.Key{Use: n, Secret: n, Hello: n, Answer: n}, No: n}
+		},
+	}
+}
+
 // TestGuestsAtEachNumber: each number of a Guest is each of these once, right or wrong, and nothing panics.
 func TestGuestsAtEachNumber(t *testing.T) {
-	numbers := append(slices.Clone(guestStates), 2, 9, 20, 21, 41, 42, 1000, 1001, 100000, 100001)
 	for _, b := range guestBases(t) {
-		for _, n := range numbers {
-			for _, change := range []func(g *impl.Guest){
-				func(g *impl.Guest) { g.State = n },
-				func(g *impl.Guest) { g.Draw = n },
-				func(g *impl.Guest) { g.Pick = n },
-				func(g *impl.Guest) { g.Ahead = n },
-				func(g *impl.Guest) { g.Sent = n },
-				func(g *impl.Guest) { g.Ahead, g.Sent = n, n },
-				func(g *impl.Guest) { g.Token.Secret = n },
-				func(g *impl.Guest) { g.Token.Born = n },
-				func(g *impl.Guest) { g.Token.Life = n },
-				func(g *impl.Guest) { g.Token.Most = n },
-				func(g *impl.Guest) { g.Token.Seal.No = n },
-				func(g *impl.Guest) { g.Token.Seal.Key.Secret = n },
-				func(g *impl.Guest) { g.Row.No = n },
-				func(g *impl.Guest) { g.Row.Key.Use = n },
-				func(g *impl.Guest) { g.Row.Key.Secret = n },
-				func(g *impl.Guest) { g.Row.Key.Hello = n },
-				func(g *impl.Guest) { g.Row.Key.Answer = n },
-				func(g *impl.Guest) {
-					g.State, g.Draw, g.Pick, g.Ahead, g.Sent = n, n, n, n, n
-					g.Token = impl.Token{Secret: n, Born: n, Life: n, Most: n}
-					g.Row = impl.Row{Key: impl.Key{Use: n, Secret: n, Hello: n, Answer: n}, No: n}
-				},
-			} {
+		for _, n := range guestNumbers {
+			for _, change := range changesTo(n) {
 				checkAll(t, "each number", changedGuest(b.guest, change))
 				checkAll(t, "each number, with its row", changedGuest(b.guest, fit(change)))
 			}
